@@ -134,3 +134,18 @@ def raised_by(source, names):
     kind, name, value = outcome_of(eval, source, names)
     attribute = "at" if name == "BadText" else "thing"
     return f"raises {name}({attribute}={value!r})" if kind == "raised" else "returns"
+
+
+def check_order(test, function, good, wrong):
+    """If several arguments are wrong, the error is that of the first one.
+
+    good gives the arguments by name, in their order; wrong gives for some of them a value, the name of the error for
+    it, and what the error holds.
+    """
+    names = list(good)
+    for chosen in range(1, 2 ** len(wrong)):
+        bad = [name for at, name in enumerate(wrong) if chosen >> at & 1]
+        values = {name: wrong[name][0] if name in bad else good[name] for name in names}
+        first = min(bad, key=names.index)
+        check_raises(test, wrong[first][1], wrong[first][2], function, *values.values())
+        check_raises(test, wrong[first][1], wrong[first][2], function, **values)

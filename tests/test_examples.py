@@ -1,5 +1,6 @@
 """The examples of the document, word for word."""
 
+import os
 import unittest
 
 from tests.helpers import check_examples
@@ -17,7 +18,70 @@ raises BadText(at=4)
 raises BadText(at=3)
 """
 
+TEXTS = """
+>>> from eyesonly.terms import is_name, is_script, is_term
+>>> from eyesonly.texts import read, written
+>>> ALIKE = 'fun alike(x, y): truth = if empty(x) or empty(y) then empty(x) and empty(y) else has(x, a) and has(y, a) and alike(left(x), left(y)) and alike(right(x), right(y))'
+>>> [is_name('top'), is_term(('has', ('top',), 'if')), is_script(()), written(read(ALIKE)) == ALIKE, read('fun f ( x ):place=(up((x)))')]
+[False, True, True, True, (('fun', 'f', 'place', ('x',), ('up', ('name', 'x'))),)]
+>>> written((('fun', 'g', 'truth', (), ('not', ('and', ('yes',), ('or', ('no',), ('call', 'g', ()))))),))
+'fun g(): truth = not (yes and (no or g()))'
+>>> read('fun f(x): truth = empty(x')
+raises BadText(at=11)
+>>> read('fun f(x): truth = x y')
+raises BadText(at=9)
+"""
+
+KINDS = """
+>>> from eyesonly.kinds import has_choice, is_program, judge_script, script_holds
+>>> from eyesonly.texts import read
+>>> GOOD = read('fun leaf(x): truth = not empty(x) and empty(left(x)) and empty(right(x)) fun some(x): place = if leaf(x) then x else either(some(left(x)), some(right(x)))')
+>>> BAD = read('fun f(x): place = g(y) fun g(x, x): truth = left(x)')
+>>> [judge_script(GOOD), is_program(BAD), has_choice(GOOD), script_holds(BAD, ('unknown', (0, 4, 2, 0))), script_holds(BAD, ('count', (0, 4))), script_holds(BAD, ('kind', (0, 4))), script_holds(BAD, ('twice', (1, 3, 1))), script_holds(BAD, ('kind', (1, 4)))]
+[('fit',), False, True, True, True, True, True, True]
+"""
+
+MEANING = """
+>>> from eyesonly.meaning import is_call, run
+>>> from eyesonly.texts import read
+>>> T = ('a', ('b', None, None), None)
+>>> P = read('fun leaf(x): truth = not empty(x) and empty(left(x)) and empty(right(x)) fun some(x): place = if leaf(x) then x else either(some(left(x)), some(right(x))) fun ever(x): truth = ever(up(x))')
+>>> [run(P, T, ('leaf', ('l',)), '', 50), run(P, T, ('some', ('',)), 'l', 50), run(P, T, ('some', ('',)), '', 50), run(P, T, ('ever', ('l',)), '', 50), is_call(P, T, ('leaf', ('rr',)))]
+[('outcome', True, 11), ('outcome', 'l', 30), ('open', 12), ('cut',), False]
+"""
+
+# Of the examples of part 5, those of lot, reached and answer.
+TABLES = """
+>>> from eyesonly.tables import answer, lot, reached
+>>> from eyesonly.texts import read
+>>> T = ('a', ('b', None, None), None)
+>>> P = read('fun leaf(x): truth = not empty(x) and empty(left(x)) and empty(right(x)) fun some(x): place = if leaf(x) then x else either(some(left(x)), some(right(x)))')
+>>> [lot(P, T, ('some', ('',))), lot(P, T, ('some', ('r',))), reached(P, T, ('some', ('',)))]
+[('l',), (), (('leaf', ('',)), ('leaf', ('l',)), ('leaf', ('r',)), ('some', ('',)), ('some', ('l',)), ('some', ('r',)))]
+>>> E = read('fun ever(x): truth = ever(up(x)) fun here(x): truth = empty(x)')
+>>> [answer(E, T, ('ever', ('l',))), answer(E, T, ('here', ('r',)))]
+[None, True]
+"""
+
 
 class Examples(unittest.TestCase):
     def test_trees(self):
         check_examples(self, TREES)
+
+    def test_terms_and_texts(self):
+        check_examples(self, TEXTS)
+
+    def test_kinds(self):
+        check_examples(self, KINDS)
+
+    def test_meaning(self):
+        check_examples(self, MEANING)
+
+    def test_tables(self):
+        check_examples(self, TABLES)
+
+    def test_readme(self):
+        folder = os.path.dirname(os.path.dirname(os.path.abspath(__file__)))
+        with open(os.path.join(folder, "README.md"), encoding="ascii") as file:
+            blocks = file.read().split("```")[1::2]
+        check_examples(self, "\n".join(block for block in blocks if ">>> " in block))

@@ -1,0 +1,81 @@
+"""The conventions [0.2] over all functions of the interface."""
+
+import copy
+import importlib
+import inspect
+import unittest
+
+from eyesonly.texts import read
+from tests.helpers import ODD_VALUES, outcome_of, same_value
+
+# The functions of the interface, by modules, with their parameters.
+INTERFACE = {
+    "trees": {
+        "is_tree": "thing", "places": "tree", "is_place": "tree thing", "part_at": "tree place", "led": "tree place way",
+        "next_place": "tree place", "tree_written": "tree", "tree_read": "text",
+    },
+    "terms": {"is_name": "thing", "is_term": "thing", "is_script": "thing"},
+    "texts": {"written": "script", "read": "text"},
+    "kinds": {
+        "judge_script": "script", "script_holds": "script thing", "is_program": "thing", "has_choice": "program",
+    },
+    "meaning": {"run": "program tree call picks fuel", "is_call": "program tree thing"},
+    "tables": {"lot": "program tree call", "reached": "program tree call", "answer": "program tree call"},
+}
+
+PROGRAM = read("fun f(x): truth = empty(x) and g(x) fun g(x): truth = f2(x) fun f2(y): truth = not has(left(y), a)")
+GOOD = {
+    "thing": ("a", None, None), "tree": ("a", None, ("b", None, None)), "place": "r", "way": "up", "text": "",
+    "script": PROGRAM, "program": PROGRAM, "call": ("f", ("r",)), "picks": "lr", "fuel": 9,
+}
+
+
+def interface():
+    """Each function of the interface with the names of its parameters."""
+    for module, functions in INTERFACE.items():
+        for name, parameters in functions.items():
+            yield module, getattr(importlib.import_module("eyesonly." + module), name), parameters.split()
+
+
+class Conventions(unittest.TestCase):
+    def test_functions_stand_in_their_files(self):
+        for module, function, parameters in interface():
+            self.assertEqual(function.__module__, "eyesonly." + module)
+            self.assertTrue(inspect.isfunction(function))
+            self.assertEqual(list(inspect.signature(function).parameters), parameters)
+
+    def test_parameters_by_position_and_by_name(self):
+        for _, function, parameters in interface():
+            values = {name: GOOD[name] for name in parameters}
+            expected = outcome_of(function, *values.values())
+            self.assertTrue(same_value(outcome_of(function, **values), expected))
+            self.assertTrue(same_value(outcome_of(function, **dict(reversed(list(values.items())))), expected))
+            # No text is one of a tree and one of a script.
+            self.assertEqual(expected[0], "raised" if function.__name__ == "tree_read" else "returned")
+
+    def test_nothing_is_changed_and_results_are_the_same_again(self):
+        for _, function, parameters in interface():
+            for name in parameters:
+                for odd in ODD_VALUES:
+                    values = {**{other: GOOD[other] for other in parameters}, name: copy.deepcopy(odd)}
+                    before = copy.deepcopy(values)
+                    found = outcome_of(function, **values)
+                    self.assertEqual(values, before)
+                    self.assertEqual(outcome_of(function, **values), found)
+
+    def test_only_errors_of_the_package_are_raised(self):
+        for _, function, parameters in interface():
+            for name in parameters:
+                for odd in ODD_VALUES:
+                    values = {**{other: GOOD[other] for other in parameters}, name: odd}
+                    found = outcome_of(function, **values)
+                    if found[0] == "raised":
+                        self.assertTrue(hasattr(importlib.import_module("eyesonly.errors"), found[1]), (function, found))
+
+    def test_questions_give_bools(self):
+        for _, function, parameters in interface():
+            if function.__name__.startswith("is_") or function.__name__.endswith("_holds"):
+                for odd in ODD_VALUES:
+                    values = {**{other: GOOD[other] for other in parameters}, "thing": odd}
+                    self.assertIn(function(**values), (True, False))
+                    self.assertIsInstance(function(**values), bool)
