@@ -80,8 +80,20 @@ class Sight:
         """The values of a call, and all calls that are demanded for it."""
         choices = [self.values_of(part) for part in term[2]]
         found = []
-        for places in rows_of(choices):
-            call = (term[1], places)
+        for call in self.calls_of(term[1], choices):
             self.demanded[call] = True
             found.extend(self.lots.get(call, ()))
         return ascending(found)
+
+    def calls_of(self, name, choices):
+        """Each call of a function that has at each position one of the places given for it."""
+        return [(name, places) for places in rows_of(choices)]
+
+    def stuck_at(self, call):
+        """The call at which the body of a call is stuck, None if there is none; for lots of at most one value."""
+        self.values_of_body(call)
+        # With such lots, calls are demanded in the order in which the evaluation comes to them.
+        for other in self.demanded:
+            if not self.lots.get(other):
+                return other
+        return None

@@ -10,7 +10,8 @@ class Table:
     """The lots of all reached calls of a call.
 
     The lots grow from () on. A call is looked at when it is first demanded, and again when a lot that it demanded
-    has grown. Calls have numbers, in the order in which they were first demanded.
+    has grown. Calls have numbers, in the order in which they were first demanded. In grown each value of each lot
+    stands as a pair of the call and the value, behind all those that it follows from.
     """
 
     def __init__(self, program, tree, call):
@@ -20,6 +21,7 @@ class Table:
         self.asking = {}
         self.fresh = []
         self.due = {}
+        self.grown = []
         self.meet(call)
         self.settle()
 
@@ -54,6 +56,7 @@ class Table:
                 self.meet(other)
             self.asking[other][number] = True
         if values != self.lots[call]:
+            self.grown.extend([(call, value) for value in values if value not in self.lots[call]])
             self.lots[call] = values
             for asker in self.asking[call]:
                 self.due[asker] = True

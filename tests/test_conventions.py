@@ -21,12 +21,24 @@ INTERFACE = {
     },
     "meaning": {"run": "program tree call picks fuel", "is_call": "program tree thing"},
     "tables": {"lot": "program tree call", "reached": "program tree call", "answer": "program tree call"},
+    "papers": {
+        "judge_outcome": "program tree call value", "outcome_holds": "program tree call value thing",
+        "judge_end": "program tree call", "end_holds": "program tree call thing",
+    },
+    "bounds": {"is_poly": "thing", "value_at": "poly number", "width": "program", "bound": "program"},
+    "code": {
+        "is_code": "thing", "is_accepted": "thing", "judge_code": "shape", "code_holds": "shape thing", "read_by": "row",
+        "set_by": "row",
+    },
+    "codebounds": {"code_bound": "code"},
 }
 
 PROGRAM = read("fun f(x): truth = empty(x) and g(x) fun g(x): truth = f2(x) fun f2(y): truth = not has(left(y), a)")
+CODE = (("truth", 1, 2, (("empty", 1, 0), ("unless", 1, 3), ("give", 1), ("call", 1, 0, (0,)), ("give", 1))),)
 GOOD = {
     "thing": ("a", None, None), "tree": ("a", None, ("b", None, None)), "place": "r", "way": "up", "text": "",
-    "script": PROGRAM, "program": PROGRAM, "call": ("f", ("r",)), "picks": "lr", "fuel": 9,
+    "script": PROGRAM, "program": PROGRAM, "call": ("f", ("r",)), "picks": "lr", "fuel": 9, "value": True,
+    "poly": ((0, 2), (3, 1)), "number": 5, "shape": CODE, "code": CODE, "row": ("call", 1, 0, (0,)),
 }
 
 

@@ -50,17 +50,39 @@ MEANING = """
 [('outcome', True, 11), ('outcome', 'l', 30), ('open', 12), ('cut',), False]
 """
 
-# Of the examples of part 5, those of lot, reached and answer.
-TABLES = """
+PAPERS = """
+>>> from eyesonly.papers import end_holds, judge_end, judge_outcome, outcome_holds
 >>> from eyesonly.tables import answer, lot, reached
 >>> from eyesonly.texts import read
 >>> T = ('a', ('b', None, None), None)
 >>> P = read('fun leaf(x): truth = not empty(x) and empty(left(x)) and empty(right(x)) fun some(x): place = if leaf(x) then x else either(some(left(x)), some(right(x)))')
 >>> [lot(P, T, ('some', ('',))), lot(P, T, ('some', ('r',))), reached(P, T, ('some', ('',)))]
 [('l',), (), (('leaf', ('',)), ('leaf', ('l',)), ('leaf', ('r',)), ('some', ('',)), ('some', ('l',)), ('some', ('r',)))]
+>>> [judge_outcome(P, T, ('some', ('r',)), 'l')[0], outcome_holds(P, T, ('leaf', ('l',)), True, ('table', ((('leaf', ('l',)), True, 0),))), outcome_holds(P, T, ('some', ('r',)), 'l', ('closed', ((('some', ('r',)), ()),)))]
+['closed', True, False]
 >>> E = read('fun ever(x): truth = ever(up(x)) fun here(x): truth = empty(x)')
->>> [answer(E, T, ('ever', ('l',))), answer(E, T, ('here', ('r',)))]
-[None, True]
+>>> [answer(E, T, ('ever', ('l',))), answer(E, T, ('here', ('r',))), judge_end(E, T, ('ever', ('',)))[0], end_holds(E, T, ('ever', ('l',)), ('endless', (), (('ever', ('l',)), ('ever', ('',)))))]
+[None, True, 'endless', True]
+"""
+
+BOUNDS = """
+>>> from eyesonly.bounds import bound, is_poly, value_at, width
+>>> from eyesonly.texts import read
+>>> P = read('fun some(x): truth = if same(x, top) then has(x, a) else some(up(x)) fun pair(x, y): place = x fun other(x, y): place = y')
+>>> [width(P), bound(P), value_at(bound(P), 5), is_poly(((1, 0),)), value_at((), 7)]
+[((1, 1), (2, 2)), ((1, 18), (2, 2)), 140, False, 0]
+"""
+
+CODE = """
+>>> from eyesonly.code import code_holds, is_accepted, judge_code, read_by, set_by
+>>> from eyesonly.codebounds import code_bound
+>>> LAST = (("place", 1, 3, (("right", 1, 0), ("empty", 2, 1), ("unless", 2, 4), ("give", 0), ("call", 1, 0, (1,)), ("give", 1))),)
+>>> judge_code(LAST)
+('accepted', ((('place', None, None), ('place', 'place', None), ('place', 'place', 'truth'), ('place', 'place', 'truth'), ('place', 'place', 'truth'), ('place', 'place', 'truth')),))
+>>> [code_bound(LAST), read_by(("same", 4, 2, 1)), set_by(("unless", 0, 3)), is_accepted((("truth", 0, 1, (("yes", 0),)),))]
+[((1, 12),), (2, 1), None, False]
+>>> [judge_code((("truth", 0, 1, (("yes", 0),)),)), judge_code((("place", 1, 1, (("skip", 0), ("give", 0))),)), judge_code((("place", 1, 2, (("give", 1),)),)), judge_code((("truth", 1, 1, (("give", 0),)),))]
+[('refused', 0, 0, 'end'), ('refused', 0, 0, 'number'), ('refused', 0, 0, 'unset'), ('refused', 0, 0, 'kind')]
 """
 
 
@@ -77,8 +99,14 @@ class Examples(unittest.TestCase):
     def test_meaning(self):
         check_examples(self, MEANING)
 
-    def test_tables(self):
-        check_examples(self, TABLES)
+    def test_tables_and_papers(self):
+        check_examples(self, PAPERS)
+
+    def test_bounds(self):
+        check_examples(self, BOUNDS)
+
+    def test_code_and_codebounds(self):
+        check_examples(self, CODE)
 
     def test_readme(self):
         folder = os.path.dirname(os.path.dirname(os.path.abspath(__file__)))

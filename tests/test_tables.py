@@ -8,79 +8,10 @@ from eyesonly.tables import answer, lot, reached
 from eyesonly.texts import read
 from eyesonly.trees import is_tree
 from tests.helpers import ODD_VALUES, chain, check_order, check_raises, same_value
-from tests.programs import ProgramMaker, all_calls, moved, small_trees, tree_parts
+from tests.lots import Lots
+from tests.programs import ProgramMaker, all_calls, small_trees, tree_parts
 
 T = ("a", ("b", None, None), None)
-
-
-class Lots:
-    """[5.1] to [5.3], said once more, for all calls at once."""
-
-    def __init__(self, program, tree):
-        self.functions = {function[1]: function for function in program}
-        self.parts = tree_parts(tree)
-        self.demanded = set()
-        self.lots = {call: set() for call in all_calls(program, tree)}
-        grown = True
-        while grown:
-            grown = False
-            for call in self.lots:
-                values = self.body(call)
-                grown = grown or values != self.lots[call]
-                self.lots[call] = values
-
-    def body(self, call):
-        _, _, _, names, body = self.functions[call[0]]
-        self.demanded = set()
-        return self.values(body, dict(zip(names, call[1])))
-
-    def values(self, term, names):
-        word = term[0]
-        if word == "name":
-            return {names[term[1]]}
-        if word in ("top", "yes", "no"):
-            return {{"top": "", "yes": True, "no": False}[word]}
-        if word == "call":
-            rows = [()]
-            for part in term[2]:
-                found = self.values(part, names)
-                rows = [row + (value,) for row in rows for value in found]
-            self.demanded.update((term[1], row) for row in rows)
-            return set().union(*[self.lots[(term[1], row)] for row in rows])
-        first = self.values(term[1], names)
-        if word == "either":
-            return first | self.values(term[2], names)
-        if word == "same":
-            second = self.values(term[2], names)
-            return {one == other for one in first for other in second}
-        if word == "and":
-            return (first & {False}) | (self.values(term[2], names) if True in first else set())
-        if word == "or":
-            return (first & {True}) | (self.values(term[2], names) if False in first else set())
-        if word == "if":
-            found = self.values(term[2], names) if True in first else set()
-            return found | (self.values(term[3], names) if False in first else set())
-        return {self.simple(term, value) for value in first}
-
-    def simple(self, term, value):
-        if term[0] == "not":
-            return not value
-        part = self.parts[value]
-        if term[0] == "empty":
-            return part is None
-        if term[0] == "has":
-            return part is not None and part[0] == term[2]
-        return moved(self.parts, value, term[0])
-
-    def reached(self, call):
-        found = {call}
-        waiting = [call]
-        while waiting:
-            self.body(waiting.pop())
-            fresh = self.demanded - found
-            found |= fresh
-            waiting.extend(fresh)
-        return tuple(sorted(found))
 
 
 def outcomes(program, tree, call, most, fuel):
