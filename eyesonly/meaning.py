@@ -36,12 +36,15 @@ def check_call(program, tree, call):
 
 
 def worked_out(term, value, part):
-    """The value of a term with one part, from the value of that part and, if it is a place, what stands there."""
+    """The value of a term with one part, from the value of that part and, if it is a place, what stands there.
+
+    A row of code that reads one register may stand in place of the term; in both a tag is the last item.
+    """
     word = term[0]
     if word == "not":
         return not value
     if word == "has":
-        return part is not None and part[0] == term[2]
+        return part is not None and part[0] == term[-1]
     if word == "empty":
         return part is None
     return place_from(part, value, word)

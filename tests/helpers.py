@@ -42,6 +42,20 @@ def changed(value, odd_values=FEW_ODD_VALUES):
     yield value + (None,)
 
 
+def check_changed(test, holds, papers, odd_values):
+    """Certificates hold, and of all that come of one change of one of them, some still hold and most do not.
+
+    Each of papers is a tuple of arguments of holds, the last one being the certificate.
+    """
+    found = {True: 0, False: 0}
+    for *values, paper in papers:
+        test.assertTrue(holds(*values, paper), (values, paper))
+        for other in changed(paper, odd_values):
+            found[holds(*values, other)] += 1
+    test.assertGreater(found[True], 15)
+    test.assertGreater(found[False], 1000)
+
+
 def changed_texts(text, signs):
     """Every text that comes of one change of a sign: cut short, left out, doubled, exchanged, replaced or put in."""
     for at in range(len(text) + 1):

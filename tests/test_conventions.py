@@ -31,6 +31,12 @@ INTERFACE = {
         "set_by": "row",
     },
     "codebounds": {"code_bound": "code"},
+    "machines": {"run_plain": "code tree f places fuel"},
+    "tabling": {
+        "run_table": "code tree f places", "judge_run": "code tree f places", "run_holds": "code tree f places thing",
+        "calls_met": "code tree f places",
+    },
+    "compiler": {"compiled": "program", "code_map": "program", "call_number": "program name"},
 }
 
 PROGRAM = read("fun f(x): truth = empty(x) and g(x) fun g(x): truth = f2(x) fun f2(y): truth = not has(left(y), a)")
@@ -39,6 +45,7 @@ GOOD = {
     "thing": ("a", None, None), "tree": ("a", None, ("b", None, None)), "place": "r", "way": "up", "text": "",
     "script": PROGRAM, "program": PROGRAM, "call": ("f", ("r",)), "picks": "lr", "fuel": 9, "value": True,
     "poly": ((0, 2), (3, 1)), "number": 5, "shape": CODE, "code": CODE, "row": ("call", 1, 0, (0,)),
+    "f": 0, "places": ("l",), "name": "f2",
 }
 
 

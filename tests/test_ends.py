@@ -9,7 +9,7 @@ from eyesonly.papers import end_holds, judge_end
 from eyesonly.tables import answer
 from eyesonly.texts import read
 from eyesonly.trees import is_tree
-from tests.helpers import ODD_VALUES, chain, changed, check_order, check_raises, same_value
+from tests.helpers import ODD_VALUES, chain, check_changed, check_order, check_raises, same_value
 from tests.lots import Lots, Papers
 from tests.programs import ProgramMaker, all_calls, small_trees
 
@@ -52,17 +52,8 @@ class Ends(unittest.TestCase):
         self.assertGreater(min(words.values()), 20)
 
     def test_changed_certificates(self):
-        kept = broken = 0
-        for call in (("lead", ("",)), ("lead", ("l",)), ("one", ("l",)), ("two", ("",)), ("far", ("",)), ("self", ("r",)), ("here", ("r",))):
-            paper = judge_end(RINGS, T, call)
-            self.assertTrue(self.holds(RINGS, call, paper))
-            for other in changed(paper, ODD_ENTRIES):
-                if self.holds(RINGS, call, other):
-                    kept += 1
-                else:
-                    broken += 1
-        self.assertGreater(kept, 15)
-        self.assertGreater(broken, 1000)
+        calls = (("lead", ("",)), ("lead", ("l",)), ("one", ("l",)), ("two", ("",)), ("far", ("",)), ("self", ("r",)), ("here", ("r",)))
+        check_changed(self, self.holds, [(RINGS, call, judge_end(RINGS, T, call)) for call in calls], ODD_ENTRIES)
 
     def test_any_value(self):
         for thing in ODD_VALUES:

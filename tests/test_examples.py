@@ -86,6 +86,28 @@ CODE = """
 """
 
 
+MACHINES = """
+>>> from eyesonly.machines import run_plain
+>>> from eyesonly.tabling import calls_met, run_holds, run_table
+>>> LAST = (("place", 1, 3, (("right", 1, 0), ("empty", 2, 1), ("unless", 2, 4), ("give", 0), ("call", 1, 0, (1,)), ("give", 1))),)
+>>> WORD = ("a", None, ("b", None, None))
+>>> [run_plain(LAST, WORD, 0, ("",), 100), run_plain(LAST, WORD, 0, ("",), 8), run_table(LAST, WORD, 0, ("",)), calls_met(LAST, WORD, 0, ("",))]
+[('given', 'r', 9), ('out',), ('given', 'r', 13), ((0, ('',)), (0, ('r',)))]
+>>> RING = (("truth", 1, 2, (("up", 1, 0), ("call", 1, 0, (1,)), ("give", 1))),)
+>>> [run_table(RING, WORD, 0, ("r",)), run_holds(RING, WORD, 0, ("r",), ("endless", (), ((0, ("r",)), (0, ("",))))), run_holds(RING, WORD, 0, ("r",), ("endless", (), ((0, ("",)),)))]
+[('endless', ((0, ('r',)), (0, ('',))), 4), True, False]
+"""
+
+COMPILER = """
+>>> from eyesonly.compiler import code_map, compiled
+>>> LAST = (("fun", "last", "place", ("x",), ("if", ("empty", ("right", ("name", "x"))), ("name", "x"), ("call", "last", (("right", ("name", "x")),)))),)
+>>> compiled(LAST)
+(('place', 1, 2, (('move', 1, 0), ('right', 1, 1), ('empty', 1, 1), ('unless', 1, 6), ('move', 1, 0), ('skip', 9), ('move', 1, 0), ('right', 1, 1), ('call', 1, 0, (1,)), ('give', 1))),)
+>>> code_map(LAST)
+(((1, 1, 1), (1, 1), (1,), (), (2,), (), (3, 2, 0, 1), (3, 2, 0), (3,), ()),)
+"""
+
+
 class Examples(unittest.TestCase):
     def test_trees(self):
         check_examples(self, TREES)
@@ -107,6 +129,12 @@ class Examples(unittest.TestCase):
 
     def test_code_and_codebounds(self):
         check_examples(self, CODE)
+
+    def test_machines_and_tabling(self):
+        check_examples(self, MACHINES)
+
+    def test_compiler(self):
+        check_examples(self, COMPILER)
 
     def test_readme(self):
         folder = os.path.dirname(os.path.dirname(os.path.abspath(__file__)))
