@@ -4,7 +4,7 @@ from eyesonly.code import check_code
 from eyesonly.errors import BadNumber, BadPlaces
 from eyesonly.frames import Frame
 from eyesonly.integers import is_natural
-from eyesonly.trees import check_tree, has_place, standing
+from eyesonly.trees import are_places, check_tree, standing
 
 
 def is_number_of(code, thing):
@@ -14,7 +14,7 @@ def is_number_of(code, thing):
 
 def are_places_for(code, tree, f, thing):
     """Whether any value is a tuple of as many places as this function of the code has names."""
-    return isinstance(thing, tuple) and len(thing) == code[f][1] and all(has_place(tree, place) for place in thing)
+    return are_places(tree, code[f][1], thing)
 
 
 def check_code_call(code, tree, f, places):

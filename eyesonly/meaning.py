@@ -4,7 +4,7 @@ from eyesonly.errors import BadCall, BadNumber, BadPicks
 from eyesonly.integers import is_natural
 from eyesonly.kinds import check_program, first_functions
 from eyesonly.terms import parts_of
-from eyesonly.trees import check_tree, has_place, place_from, standing
+from eyesonly.trees import are_places, check_tree, place_from, standing
 
 CONSTANTS = {"top": "", "yes": True, "no": False}
 PICKS = ("l", "r")
@@ -14,11 +14,8 @@ def is_call_of(program, tree, thing):
     """Whether any value is a call of what is known to be a program, for what is known to be a tree."""
     if not isinstance(thing, tuple) or len(thing) != 2:
         return False
-    name, places = thing
-    if not isinstance(places, tuple):
-        return False
-    many = [len(function[3]) for function in program if function[1] == name]
-    return many == [len(places)] and all(has_place(tree, place) for place in places)
+    many = [len(function[3]) for function in program if function[1] == thing[0]]
+    return bool(many) and are_places(tree, many[0], thing[1])
 
 
 def is_call(program, tree, thing):

@@ -61,6 +61,13 @@ class Table:
             for asker in self.asking[call]:
                 self.due[asker] = True
 
+    def lot_of(self, call):
+        """The lot of a call, whether it was demanded before or not."""
+        if call not in self.lots:
+            self.meet(call)
+            self.settle()
+        return self.lots[call]
+
 
 def settled(program, tree, call):
     """The table of a call of what is known to be a program."""

@@ -71,6 +71,11 @@ def is_place(tree, thing):
     return has_place(tree, thing)
 
 
+def are_places(tree, many, thing):
+    """Whether any value is a tuple of so many places of what is known to be a tree."""
+    return isinstance(thing, tuple) and len(thing) == many and all(has_place(tree, place) for place in thing)
+
+
 def part_at(tree, place):
     """The tree that stands at a place."""
     check_tree(tree)

@@ -99,7 +99,7 @@ def deepest(tree):
     return 0 if tree is None else 1 + max(deepest(tree[1]), deepest(tree[2]))
 
 
-def outcome_of(function, *values, **named):
+def outcome_of(function, /, *values, **named):
     """What a call returns, or its error with the attribute."""
     try:
         return ("returned", function(*values, **named))
@@ -117,7 +117,7 @@ def same_value(one, other):
     return one == other
 
 
-def check_raises(test, name, attribute, function, *values, **named):
+def check_raises(test, name, attribute, function, /, *values, **named):
     """A call raises the error of this name, whose thing or at is this; and it leaves what it is passed unchanged."""
     before = copy.deepcopy((values, named))
     found = outcome_of(function, *values, **named)

@@ -85,7 +85,6 @@ CODE = """
 [('refused', 0, 0, 'end'), ('refused', 0, 0, 'number'), ('refused', 0, 0, 'unset'), ('refused', 0, 0, 'kind')]
 """
 
-
 MACHINES = """
 >>> from eyesonly.machines import run_plain
 >>> from eyesonly.tabling import calls_met, run_holds, run_table
@@ -105,6 +104,52 @@ COMPILER = """
 (('place', 1, 2, (('move', 1, 0), ('right', 1, 1), ('empty', 1, 1), ('unless', 1, 6), ('move', 1, 0), ('skip', 9), ('move', 1, 0), ('right', 1, 1), ('call', 1, 0, (1,)), ('give', 1))),)
 >>> code_map(LAST)
 (((1, 1, 1), (1, 1), (1,), (), (2,), (), (3, 2, 0, 1), (3, 2, 0), (3,), ()),)
+"""
+
+LAST_AND_HEADS = """
+>>> from eyesonly.heads import heads_program, is_machine, run_heads
+>>> from eyesonly.last import judge_last, run_last
+>>> LAST = (("fun", "last", "place", ("x",), ("if", ("empty", ("right", ("name", "x"))), ("name", "x"), ("call", "last", (("right", ("name", "x")),)))),)
+>>> ROUND = (("fun", "round", "truth", ("x",), ("call", "round", (("up", ("name", "x")),))),)
+>>> WITHIN = (("fun", "f", "truth", ("x",), ("not", ("call", "f", (("name", "x"),)))),)
+>>> WORD = ("a", None, ("b", None, None))
+>>> [judge_last(LAST), judge_last(WITHIN), run_last(LAST, WORD, "last", ("",)), run_last(ROUND, WORD, "round", ("r",))]
+[('last',), ('within', 'f', (1,)), ('given', 'r', 2), ('endless', ('round', ('',)), 1)]
+>>> FINDB = ("heads", 1, (("go", ("empty", 0), ("no", ()), ("look", ())), ("look", ("has", 0, "b"), ("yes", ()), ("go", ((0, "right"),)))))
+>>> [is_machine(FINDB), run_heads(FINDB, WORD, ("",)), run_heads(FINDB, ("a", None, None), ("",)), judge_last(heads_program(FINDB))]
+[True, ('given', True, 4), ('given', False, 3), ('last',)]
+"""
+
+CLOCKED = """
+>>> from eyesonly.clocked import is_tape, tape_outcome, tape_standing
+>>> from eyesonly.made import made
+>>> from eyesonly.tables import answer
+>>> SEEK = ('tape', ('b',), 3, (((0, 0, 1), (1, 1, 0), (0, 2, 1)),))
+>>> T = ('a', ('b', None, None), None)
+>>> [is_tape(SEEK), tape_standing(SEEK, T, 1, 1), tape_standing(SEEK, T, 1, 4), tape_outcome(SEEK, T, 1), tape_outcome(SEEK, ('a', None, None), 1)]
+[True, (0, 1, (2, 1, 0, 0, 0)), (1, 1, (2, 1, 0, 0, 0)), True, False]
+>>> [answer(made(SEEK, 1), T, ('main', ())), answer(made(SEEK, 1), ('a', None, None), ('main', ()))]
+[True, False]
+"""
+
+QUERIES = """
+>>> from eyesonly.queries import found
+>>> from eyesonly.shelf import spine, word_of
+>>> [spine(("a", "b")), word_of(("a", None, ("b", None, None))), word_of(("a", ("b", None, None), None))]
+[('a', None, ('b', None, None)), ('a', 'b'), None]
+>>> HASB = (("fun", "hasb", "truth", ("x",), ("has", ("name", "x"), "b")),)
+>>> found(HASB, spine(("a", "b", "b")), "hasb")
+('r', 'rr')
+"""
+
+SIMPLIFY = r"""
+>>> from eyesonly.simplify import after_step, is_step, simplified, steps_from
+>>> from eyesonly.texts import read, written
+>>> P = read('fun f(x, y): truth = same(x, y) or has(up(top), a) fun g(x): truth = if not not yes then f(x, x) else no')
+>>> [steps_from(P), is_step(P, ('twice', (1, 4)))]
+[(('inline', (1, 4, 2)), ('known', (1, 4, 1)), ('known', (1, 4, 1, 1)), ('lift', (0, 4, 2, 1)), ('twice', (1, 4, 1))), False]
+>>> [written(after_step(P, ('inline', (1, 4, 2)))), written(simplified(P))]
+['fun f(x, y): truth = same(x, y) or has(up(top), a)\nfun g(x): truth = if not not yes then same(x, x) or has(up(top), a) else no', 'fun f(x, y): truth = same(x, y) or has(top, a)\nfun g(x): truth = yes or has(top, a)']
 """
 
 
@@ -135,6 +180,18 @@ class Examples(unittest.TestCase):
 
     def test_compiler(self):
         check_examples(self, COMPILER)
+
+    def test_last_and_heads(self):
+        check_examples(self, LAST_AND_HEADS)
+
+    def test_clocked_and_made(self):
+        check_examples(self, CLOCKED)
+
+    def test_shelf_and_queries(self):
+        check_examples(self, QUERIES)
+
+    def test_simplify(self):
+        check_examples(self, SIMPLIFY)
 
     def test_readme(self):
         folder = os.path.dirname(os.path.dirname(os.path.abspath(__file__)))
